@@ -1,5 +1,7 @@
 """What the other files share: what is a number, a set, a rule, a table and parts, and which rows are alike where."""
 
+from tellscolumns.errors import BadParts, BadTable
+
 MOST_COLUMNS = 6
 MOST_RULES = 64
 MOST_ROWS = 64
@@ -65,6 +67,18 @@ def are_parts(value, columns):
     return together == all_columns(columns)
 
 
+def need_table(columns, table):
+    if not is_count(columns):
+        raise BadTable("the columns are no number from 1 to 6")
+    if not is_table(table, columns):
+        raise BadTable("no table of these columns")
+
+
+def need_parts(columns, parts):
+    if not are_parts(parts, columns):
+        raise BadParts("no list of 1 to 64 parts of these columns")
+
+
 def is_within(some, whole):
     return some | whole == whole
 
@@ -95,11 +109,12 @@ def makes(table, parts, row):
     return True
 
 
+def row_of(columns, some, number):
+    return [0 if some & (1 << column) else number for column in range(columns)]
+
+
 def sheet_of(columns, parts):
-    sheet = []
-    for place, part in enumerate(parts, start=1):
-        sheet.append([0 if part & (1 << column) else place for column in range(columns)])
-    return sheet
+    return [row_of(columns, part, place) for place, part in enumerate(parts, start=1)]
 
 
 def lowered(number, one, other):

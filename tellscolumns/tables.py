@@ -1,22 +1,16 @@
 """Tables: which rules they break, and which rows their parts make."""
 
-from tellscolumns.common import all_columns, are_parts, cells, is_count, is_table, keeps
-from tellscolumns.errors import BadParts, BadTable
+from tellscolumns.common import all_columns, cells, keeps, need_parts, need_table
 
 
 def broken(rules, table):
-    if not is_table(table, rules.columns):
-        raise BadTable("no table of these columns")
+    need_table(rules.columns, table)
     return [place for place, rule in enumerate(rules.rules()) if not keeps(table, rule)]
 
 
 def joined(columns, table, parts):
-    if not is_count(columns):
-        raise BadTable("the columns are no number from 1 to 6")
-    if not is_table(table, columns):
-        raise BadTable("no table of these columns")
-    if not are_parts(parts, columns):
-        raise BadParts("no list of 1 to 64 parts of these columns")
+    need_table(columns, table)
+    need_parts(columns, parts)
     rows = [[]]
     for column in range(columns):
         rows = widened(rows, column, table, parts)

@@ -6,51 +6,8 @@ import unittest
 from tellscolumns.answers import Alike, Answer, Apart, Back, Lost, Rows, Steps
 from tellscolumns.rules import Rules, told
 from tellscolumns.tables import joined
-from tests.helper import alike_in, columns_of, slow_keeps, slow_told, small_tables, some_parts, some_rules, some_table
-
-
-def slow_steps(places, rules, left, right):
-    given = rules.rules()
-    known = set(columns_of(left))
-    for place in places:
-        if place >= len(given) or not set(columns_of(given[place][0])) <= known:
-            return False
-        known |= set(columns_of(given[place][1]))
-    return set(columns_of(right)) <= known
-
-
-def slow_rows(one, other, rules, left, right):
-    if len(one) != rules.columns or len(other) != rules.columns:
-        return False
-    kept = all(slow_keeps([one, other], rule) for rule in rules.rules())
-    return kept and alike_in(one, other, left) and not alike_in(one, other, right)
-
-
-def slow_back(steps, rules, parts):
-    sheet = {}
-    for place, part in enumerate(parts):
-        for column in range(rules.columns):
-            sheet[place, column] = 0 if column in columns_of(part) else place + 1
-    for rule, one, other in steps:
-        if rule >= len(rules.rules()) or one >= len(parts) or other >= len(parts):
-            return False
-        left, right = rules.rules()[rule]
-        if any(sheet[one, column] != sheet[other, column] for column in columns_of(left)):
-            return False
-        for column in columns_of(right):
-            both = [sheet[one, column], sheet[other, column]]
-            for place in range(len(parts)):
-                if sheet[place, column] in both:
-                    sheet[place, column] = min(both)
-    return any(all(sheet[place, column] == 0 for column in range(rules.columns)) for place in range(len(parts)))
-
-
-def slow_lost(table, row, rules, parts):
-    if any(len(line) != rules.columns for line in table + [row]):
-        return False
-    if not all(slow_keeps(table, rule) for rule in rules.rules()) or row in table:
-        return False
-    return all(any(alike_in(line, row, part) for line in table) for part in parts)
+from tests.helper import slow_back, slow_keeps, slow_lost, slow_rows, slow_steps, slow_told
+from tests.helper import small_tables, some_parts, some_rules, some_table
 
 
 def lists_of_steps(rules, others):

@@ -21,6 +21,10 @@ split splitlines startswith strip update upper values zfill bit_length""".split(
 DUNDERS = "__init__ __eq__ __repr__ __str__ __len__".split()
 WORDS = """type typing typing_extensions enum Enum IntEnum StrEnum Flag IntFlag Generic Protocol ABC ABCMeta namedtuple
 NamedTuple TypedDict TYPE_CHECKING abstractmethod""".split()
+WALKED = "zip enumerate reversed range items keys values".split()
+WALKERS = "list tuple dict sorted sum any all enumerate zip min max".split()
+KEYWORDS = {"sorted": ["key", "reverse"], "min": ["key", "default"], "max": ["key", "default"], "sum": ["start"],
+            "enumerate": ["start"], "zip": ["strict"]}
 
 
 def files():
@@ -35,12 +39,19 @@ def nodes(kind):
     return [(path, node) for path, tree in trees() for node in ast.walk(tree) if isinstance(node, kind)]
 
 
+def called(node):
+    """The name that a call calls, of a method its last word; "" for what is no call."""
+    if not isinstance(node, ast.Call):
+        return ""
+    return node.func.id if isinstance(node.func, ast.Name) else node.func.attr
+
+
 class Language(unittest.TestCase):
     def test_files(self):
         there = [path.name for path in PACKAGE.iterdir() if path.name != "__pycache__"]
         self.assertEqual(sorted(there), [path.name for path in files()])
-        for name in ["__init__.py", "errors.py", "rules.py", "tables.py", "answers.py"]:
-            self.assertIn(name, there)
+        for name in ["__init__", "errors", "rules", "tables", "answers", "telling", "parts", "examples", "texts"]:
+            self.assertIn(name + ".py", there)
         for name in there:
             self.assertRegex(name, r"^([a-z][a-z0-9_]*|__init__)\.py$")
             self.assertNotIn(name[:-3], dir(builtins))
@@ -156,3 +167,40 @@ class Language(unittest.TestCase):
             for node in ast.walk(tree):
                 if isinstance(node, ast.Call) and isinstance(node.func, ast.Name) and node.func.id == "set":
                     self.assertIn(node, inner, (path.name, node.lineno))
+
+    def test_no_local_is_called_like_a_class_or_an_import(self):
+        for path, tree in trees():
+            taken = [node.name for node in tree.body if isinstance(node, (ast.ClassDef, ast.FunctionDef))]
+            taken += [name.name for node in tree.body if isinstance(node, ast.ImportFrom) for name in node.names]
+            tops = [name for node in tree.body if isinstance(node, ast.Assign) for name in node.targets]
+            for node in ast.walk(tree):
+                if isinstance(node, ast.arg):
+                    self.assertNotIn(node.arg, taken, path.name)
+                if isinstance(node, ast.Name) and isinstance(node.ctx, ast.Store) and node not in tops:
+                    self.assertNotIn(node.id, taken, (path.name, node.lineno))
+
+    def test_imports_are_of_what_a_file_defines_and_used(self):
+        defined = {}
+        for path, tree in trees():
+            defined[path.stem] = [node.name for node in tree.body if isinstance(node, (ast.ClassDef, ast.FunctionDef))]
+            defined[path.stem] += [node.targets[0].id for node in tree.body if isinstance(node, ast.Assign)]
+        for path, tree in trees():
+            used = [node.id for node in ast.walk(tree) if isinstance(node, ast.Name)]
+            for node in tree.body:
+                if isinstance(node, ast.ImportFrom):
+                    for name in node.names:
+                        self.assertIn(name.name, defined[node.module.split(".")[1]], path.name)
+                        self.assertIn(name.name, used, path.name)
+
+    def test_keywords(self):
+        for path, node in nodes(ast.Call):
+            allowed = KEYWORDS.get(called(node), [])
+            self.assertTrue(all(one.arg in allowed for one in node.keywords), (path.name, node.lineno))
+
+    def test_walked_at_once(self):
+        for path, tree in trees():
+            places = [node.iter for node in ast.walk(tree) if isinstance(node, (ast.For, ast.comprehension))]
+            places += [arg for node in ast.walk(tree) if called(node) in WALKERS for arg in node.args]
+            for node in ast.walk(tree):
+                if called(node) in WALKED:
+                    self.assertIn(node, places, (path.name, node.lineno))

@@ -6,29 +6,8 @@ import unittest
 from tellscolumns.errors import BadParts, BadTable
 from tellscolumns.rules import Rules
 from tellscolumns.tables import broken, joined
-from tests.helper import NO_LISTS, NO_NUMBERS, OTHER_KINDS
-from tests.helper import slow_joined, slow_keeps, some_parts, some_rules, some_table
-
-ROWS_OF_TWO = OTHER_KINDS + [True, False, 0, (), (1, 2), [], [1], [1, 2, 3], [[1, 2]]]
-NUMBERS = NO_NUMBERS + [-1, 100, 10 ** 30, -10 ** 30]
-
-
-def wrong_tables():
-    """What is no table of two columns."""
-    tables = NO_LISTS + [([1, 2],), ([1, 2], [3, 4]), iter([]), [[0, 0]] * 65, [1, 2]]
-    for row in ROWS_OF_TWO:
-        tables += [[row], [[1, 2], row], [row, [1, 2]]]
-    for number in NUMBERS:
-        tables += [[[number, 0]], [[0, number]], [[0, 0], [0, number]]]
-    return tables
-
-
-def wrong_parts():
-    """What is no list of 1 to 64 parts of two columns."""
-    lists = NO_LISTS + [(3,), (1, 2), iter([3]), [], [3] * 65, [1], [2], [2, 2], [1] * 64]
-    for part in NO_NUMBERS + [0, -1, 4, 7, 10 ** 30, -10 ** 30]:
-        lists += [[part], [3, part], [part, 3], [1, 2, part]]
-    return lists
+from tests.helper import NO_NUMBERS, slow_joined, slow_keeps, some_parts, some_rules, some_table
+from tests.helper import wrong_parts, wrong_tables
 
 
 class Broken(unittest.TestCase):
