@@ -257,6 +257,11 @@ class Across(unittest.TestCase):
         self.assertEqual(self.hold(6, [(1, 2)] * 64, singles + [1] * 58), list(range(64)))
         self.assertEqual(self.hold(6, [(1, 2)] * 64, singles + [1] * 57 + [3]), [])
 
+    def test_one_column(self):
+        for given in all_rules(1, 2):
+            for parts in all_parts(1, 3):
+                self.assertEqual(self.hold(1, given, parts), [])
+
     def test_two_columns(self):
         for given in all_rules(2, 2):
             for parts in all_parts(2, 2):

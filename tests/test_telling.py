@@ -296,6 +296,10 @@ class AlikeOrApart(unittest.TestCase):
         for columns, given in drawn_rules(54):
             self.assertIs(type(self.hold(Rules(columns, given), Rules(columns, given[::-1]))), Alike)
 
+    def test_one_column(self):
+        for one, other in itertools.product(all_rules(1, 2), repeat=2):
+            self.hold(Rules(1, one), Rules(1, other))
+
     def test_two_columns(self):
         lists = list(all_rules(2, 1)) + list(all_rules(2, 2))[20::9]
         for one, other in itertools.product(lists, repeat=2):
