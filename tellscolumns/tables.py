@@ -1,6 +1,9 @@
 """Tables: which rules they break, and which rows their parts make."""
 
 from tellscolumns.common import all_columns, cells, keeps, need_parts, need_table
+from tellscolumns.errors import BadTable
+
+MOST_ROWS_JOINED = 8
 
 
 def broken(rules, table):
@@ -10,6 +13,9 @@ def broken(rules, table):
 
 def joined(columns, table, parts):
     need_table(columns, table)
+    # A bound of its own, below that of other tables: the parts of 8 rows can make 8 ** 6 rows already.
+    if len(table) > MOST_ROWS_JOINED:
+        raise BadTable("a table of more than 8 rows")
     need_parts(columns, parts)
     rows = [[]]
     for column in range(columns):

@@ -137,7 +137,7 @@ class Joined(unittest.TestCase):
         self.assertEqual(joined(1, [[99], [0]], [1] * 64), [[0], [99]])
         self.assertEqual(joined(6, [[0] * 6, [99] * 6], [7, 56]),
                          [[0] * 6, [0] * 3 + [99] * 3, [99] * 3 + [0] * 3, [99] * 6])
-        self.assertEqual(joined(2, [[row, 0] for row in range(64)], [1, 2]), [[row, 0] for row in range(64)])
+        self.assertEqual(joined(2, [[row, 0] for row in range(8)], [1, 2]), [[row, 0] for row in range(8)])
 
     def test_rising_by_number(self):
         self.assertEqual(joined(1, [[10], [9], [2]], [1]), [[2], [9], [10]])
@@ -147,9 +147,24 @@ class Joined(unittest.TestCase):
         rows = joined(6, table, [1, 2, 4, 8, 16, 32])
         self.assertEqual(rows, [list(row) for row in itertools.product(range(8), repeat=6)])
 
-    def test_somewhat_more_than_8_rows(self):
-        table = [[row, row] for row in range(9)]
-        self.assertEqual(joined(2, table, [1, 2]), [list(row) for row in itertools.product(range(9), repeat=2)])
+    def test_8_rows_and_one_more(self):
+        for columns in range(1, 7):
+            whole = (1 << columns) - 1
+            unlike = [[row] * columns for row in range(9)]
+            alike = [[0] * columns] * 9
+            self.assertEqual(joined(columns, unlike[:8], [whole]), unlike[:8])
+            self.assertEqual(joined(columns, alike[:8], [whole]), alike[:1])
+            for table in [unlike, alike]:
+                for parts in [[whole], [1 << column for column in range(columns)], [whole] * 64]:
+                    with self.assertRaises(BadTable):
+                        joined(columns, table, parts)
+
+    def test_more_than_8_rows_refused(self):
+        for count in list(range(9, 67)) + [99, 1000]:
+            for table in [[[row % 100, 0] for row in range(count)], [[1, 2]] * count]:
+                for parts in [[3], [1, 2], [], [0], [1], None, (3,), [True]]:
+                    with self.assertRaises(BadTable, msg=(count, parts)):
+                        joined(2, table, parts)
 
     def test_all_small_tables_of_two_columns(self):
         rows = [list(row) for row in itertools.product(range(3), repeat=2)]
@@ -197,7 +212,7 @@ class Joined(unittest.TestCase):
 
     def test_the_table_is_refused_ahead_of_the_parts(self):
         for parts in [None, [], [0], [1], (3,), [True]]:
-            for table in [None, [[1]], ([1, 2],), [[1, True]], [[0, 0]] * 65]:
+            for table in [None, [[1]], ([1, 2],), [[1, True]], [[0, 0]] * 9, [[0, 0]] * 64, [[0, 0]] * 65]:
                 with self.assertRaises(BadTable):
                     joined(2, table, parts)
             with self.assertRaises(BadTable):
